@@ -1,0 +1,1 @@
+"""A morning at an airport: who lands when, and where each one stands."""
