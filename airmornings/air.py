@@ -20,6 +20,8 @@ class Landing:
 
 
 def end_of(order):
+    if len(order) == 0:
+        return 0
     return order[len(order) - 1].time
 
 
@@ -33,6 +35,13 @@ def is_better(order, best):
     if end_of(order) != end_of(best):
         return end_of(order) < end_of(best)
     return waiting_of(order) < waiting_of(best)
+
+
+def landing_of(order, number):
+    for landing in order:
+        if landing.craft.number == number:
+            return landing
+    return None
 
 
 def without(crafts, number):
@@ -62,12 +71,12 @@ class Air:
         numbers = [landing.craft.number for landing in self.landed] + [other.number for other in self.waiting]
         return len([number for number in numbers if number < craft.number])
 
+    def soonest_behind(self, landing, craft):
+        return landing.time + self.rooms[landing.craft.kind][craft.kind]
+
     # The room differs from class to class, so somebody far ahead may hold one up longer than the one just ahead.
     def soonest(self, craft, ahead):
-        time = craft.first
-        for landing in ahead:
-            time = max(time, landing.time + self.rooms[landing.craft.kind][craft.kind])
-        return time
+        return max([craft.first] + [self.soonest_behind(landing, craft) for landing in ahead])
 
     # Ahead are those that landed and then those of the order, so how many they are is the next one's place.
     def allowed_next(self, ahead, left):
@@ -79,21 +88,39 @@ class Air:
                     landings.append(Landing(craft, time))
         return landings
 
-    # Those left are tried by rising numbers and only a better order takes another's place, so of orders
-    # that are as good the one with the least number where they first differ stays.
-    def best_order(self, ahead, left):
+    # Those left are tried by rising numbers, so an order stands before all that have a greater number than it
+    # where they first differ.
+    def orders_behind(self, ahead, left):
         if len(left) == 0:
-            return []
-        best = None
+            return [[]]
+        orders = []
         for landing in self.allowed_next(ahead, left):
-            behind = self.best_order(ahead + [landing], without(left, landing.craft.number))
-            if behind is not None and is_better([landing] + behind, best):
-                best = [landing] + behind
+            for behind in self.orders_behind(ahead + [landing], without(left, landing.craft.number)):
+                orders.append([landing] + behind)
+        return orders
+
+    def allowed_orders(self):
+        return self.orders_behind(self.landed, self.waiting)
+
+    # None says that no order is allowed; of nobody the plan is an empty list. Only a better order takes
+    # another's place, so of orders that are as good the first stays.
+    def plan(self):
+        best = None
+        for order in self.allowed_orders():
+            if is_better(order, best):
+                best = order
         return best
 
-    # None says that no order is allowed; of nobody the plan is an empty list.
-    def plan(self):
-        return self.best_order(self.landed, self.waiting)
+    def may_land(self, number, time):
+        return any([landing_of(order, number).time <= time for order in self.allowed_orders()])
+
+    # A list of the one that this landing has to wait for, or of none if it waits for nobody.
+    def held_up_by(self, landing, planned):
+        if landing.time == landing.craft.first:
+            return []
+        ahead = self.landed + planned
+        holding = [other for other in ahead if self.soonest_behind(other, landing.craft) == landing.time]
+        return [other.craft.number for other in holding[:1]]
 
     def expected(self):
         planned = self.plan()

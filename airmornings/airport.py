@@ -1,6 +1,6 @@
 """One airport: the calls, what each answers, and what is put right behind it."""
 
-from airmornings.air import Air, CLASSES, Craft
+from airmornings.air import Air, CLASSES, Craft, end_of, landing_of
 from airmornings.gates import Flight, Gates, Stand
 
 WRONG = -1
@@ -25,9 +25,20 @@ MOST_IN_AIR = 8
 MOST_COMING = 60
 MOST_FLIGHTS = 6
 
+IN_AIR = 0
+LANDED = 1
+WENT = 2
+
 
 def listed(numbers):
     return [len(numbers)] + numbers
+
+
+def numbers_and_times(landings):
+    told = []
+    for landing in landings:
+        told.extend([landing.craft.number, landing.time])
+    return told
 
 
 class Airport:
@@ -41,12 +52,19 @@ class Airport:
         self.gates = Gates(far)
         # How long each stays, by its number: its length is how many have come.
         self.stays = []
+        # How often each was moved, by its number, also when it went.
+        self.moves = []
 
     def came(self):
         return len(self.stays)
 
     def has_stand(self, stand):
         return stand < len(self.gates.stands)
+
+    def stage(self, aircraft):
+        if self.gates.flight_of(aircraft) is None:
+            return WENT
+        return IN_AIR if self.air.waits(aircraft) else LANDED
 
     def begins(self, shift, far, taxi):
         if shift > MOST_SHIFT or far > MOST_FAR or taxi > MOST_TAXI:
@@ -106,6 +124,7 @@ class Airport:
         if refusal < 0:
             return [refusal]
         self.stays.append(stay)
+        self.moves.append(0)
         self.air.waiting.append(craft)
         self.gates.flights.append(flight)
         moved = self.put_right()
@@ -127,19 +146,19 @@ class Airport:
     def goes(self, aircraft):
         if aircraft >= self.came():
             return [NO_SUCH]
-        if self.gates.flight_of(aircraft) is None:
+        stage = self.stage(aircraft)
+        if stage == WENT:
             return [NOT_NOW]
-        had_landed = 0 if self.air.waits(aircraft) else 1
         self.air.turn_away(aircraft)
         self.gates.send_off(aircraft)
-        return [had_landed] + listed(self.put_right())
+        return [stage] + listed(self.put_right())
 
     def late(self, aircraft, end):
         if aircraft >= self.came():
             return [NO_SUCH]
-        flight = self.gates.flight_of(aircraft)
-        if flight is None or self.air.waits(aircraft):
+        if self.stage(aircraft) != LANDED:
             return [NOT_NOW]
+        flight = self.gates.flight_of(aircraft)
         if end <= flight.begin or end > LAST_MINUTE:
             return [WRONG]
         flight.end = end
@@ -165,4 +184,65 @@ class Airport:
     def put_right(self):
         for landing in self.air.expected():
             self.tell_times(landing)
-        return self.gates.put_right()
+        moved = self.gates.put_right()
+        for number in moved:
+            self.moves[number] += 1
+        return moved
+
+    def plan(self):
+        planned = self.air.plan()
+        if planned is None:
+            return [NO_PLAN]
+        return [end_of(planned)] + listed(numbers_and_times(planned))
+
+    def not_in_air(self, aircraft):
+        if aircraft >= self.came():
+            return NO_SUCH
+        if self.stage(aircraft) != IN_AIR:
+            return NOT_NOW
+        return 0
+
+    def may(self, aircraft, time):
+        refusal = self.not_in_air(aircraft)
+        if refusal < 0:
+            return [refusal]
+        return [1 if self.air.may_land(aircraft, time) else 0]
+
+    def why(self, aircraft):
+        refusal = self.not_in_air(aircraft)
+        if refusal < 0:
+            return [refusal]
+        planned = self.air.plan()
+        if planned is None:
+            return [NO_PLAN]
+        landing = landing_of(planned, aircraft)
+        return [landing.time] + listed(self.air.held_up_by(landing, planned))
+
+    def where(self, aircraft):
+        if aircraft >= self.came():
+            return [NO_SUCH]
+        stage = self.stage(aircraft)
+        if stage == WENT:
+            return [WENT]
+        flight = self.gates.flight_of(aircraft)
+        return [stage] + listed([flight.place, flight.begin, flight.end])
+
+    def steps(self):
+        return [self.gates.steps()] + listed([self.gates.fewest_steps()])
+
+    def moved(self):
+        return [sum(self.moves)] + listed(self.moves)
+
+    def free(self, stand, begin, end):
+        if end <= begin or end > LAST_MINUTE:
+            return [WRONG]
+        if not self.has_stand(stand):
+            return [NO_SUCH]
+        there = self.gates.at_stand(stand, begin, end)
+        return [len(there)] + listed(there)
+
+    def state(self):
+        begun = [self.air.shift, self.gates.far, self.taxi]
+        landed = numbers_and_times(self.air.landed)
+        waiting = [craft.number for craft in self.air.waiting]
+        return [self.came()] + listed(begun) + listed(landed) + listed(waiting) + listed(self.gates.times())

@@ -20,9 +20,12 @@ class Flight:
         self.end = 0
         self.place = None
 
+    def is_there(self, begin, end):
+        return self.begin < end and begin < self.end
+
 
 def meet(one, other):
-    return one.begin < other.end and other.begin < one.end
+    return one.is_there(other.begin, other.end)
 
 
 def change(flight, place):
@@ -81,23 +84,46 @@ class Gates:
                 return False
         return True
 
+    # Of as near ones the lesser is before the greater.
+    def nearest_first(self, flight):
+        return sorted(range(self.field() + 1), key=lambda place: self.walk(place, flight))
+
+    # What these flights walk at the least, each as if it were alone.
+    def least_walk(self, flights):
+        walked = 0
+        for flight in flights:
+            walked += min([self.walk(place, flight) for place in range(self.field() + 1) if self.takes(place, flight)])
+        return walked
+
     # The flights behind those that the places are told for, set with the fewest steps and no more changes
-    # than are spare: a pair of their steps and their places, or None. Places are tried by rising numbers and
-    # only fewer steps take another's place, so of settings with as few steps the first stays.
+    # than are spare: a pair of their steps and their places, or None. Such pairs compare by their steps, and
+    # if these are as few by which setting is first.
     def best_behind(self, places, spare):
         if len(places) == len(self.flights):
             return (0, [])
         flight = self.flights[len(places)]
+        least = self.least_walk(self.flights[len(places) + 1:])
         best = None
-        for place in range(self.field() + 1):
+        for place in self.nearest_first(flight):
+            walked = self.walk(place, flight)
+            # Nothing that begins so can be better, and to go through it all would take too long.
+            if best is not None and (walked + least, [place]) > best:
+                continue
             left = spare - change(flight, place)
             if left >= 0 and self.fits(flight, place, places):
                 behind = self.best_behind(places + [place], left)
                 if behind is not None:
-                    walked = self.walk(place, flight) + behind[0]
-                    if best is None or walked < best[0]:
-                        best = (walked, [place] + behind[1])
+                    found = (walked + behind[0], [place] + behind[1])
+                    if best is None or found < best:
+                        best = found
         return best
+
+    def steps(self):
+        return sum([self.walk(flight.place, flight) for flight in self.flights])
+
+    def fewest_steps(self):
+        best = self.best_behind([], len(self.flights))
+        return best[0]
 
     # All on the field is good, so there is one at the latest when each flight may change.
     def fewest_changes(self):
@@ -115,3 +141,13 @@ class Gates:
                 moved.append(flight.number)
             flight.place = place
         return moved
+
+    def at_stand(self, stand, begin, end):
+        there = [flight for flight in self.flights if flight.is_there(begin, end)]
+        return [flight.number for flight in there if flight.place == stand]
+
+    def times(self):
+        told = []
+        for flight in self.flights:
+            told.extend([flight.number, flight.begin, flight.end])
+        return told

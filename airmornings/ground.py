@@ -39,6 +39,38 @@ def shut(airport, handed):
     return airport.shut(handed[0], handed[1])
 
 
+def plan(airport, handed):
+    return airport.plan()
+
+
+def may(airport, handed):
+    return airport.may(handed[0], handed[1])
+
+
+def why(airport, handed):
+    return airport.why(handed[0])
+
+
+def where(airport, handed):
+    return airport.where(handed[0])
+
+
+def steps(airport, handed):
+    return airport.steps()
+
+
+def moved(airport, handed):
+    return airport.moved()
+
+
+def free(airport, handed):
+    return airport.free(handed[0], handed[1], handed[2])
+
+
+def state(airport, handed):
+    return airport.state()
+
+
 # By the number of the call: how many numbers are handed to it, and what answers it.
 CALLS = (
     (3, begins),
@@ -50,6 +82,14 @@ CALLS = (
     (1, goes),
     (2, late),
     (2, shut),
+    (0, plan),
+    (2, may),
+    (1, why),
+    (1, where),
+    (0, steps),
+    (0, moved),
+    (3, free),
+    (0, state),
 )
 
 

@@ -41,6 +41,38 @@ def shut(stand, truth=1):
     return [8, stand, truth]
 
 
+def plan():
+    return [9]
+
+
+def may(aircraft, time):
+    return [10, aircraft, time]
+
+
+def why(aircraft):
+    return [11, aircraft]
+
+
+def where(aircraft):
+    return [12, aircraft]
+
+
+def steps():
+    return [13]
+
+
+def moved():
+    return [14]
+
+
+def free(stand, begin, end):
+    return [15, stand, begin, end]
+
+
+def state():
+    return [16]
+
+
 def flat(calls):
     numbers = []
     for call in calls:
@@ -83,6 +115,50 @@ def went(had_landed, moved=()):
 
 def changed(moved=()):
     return [len(moved), len(moved), *moved]
+
+
+def planned(end, *landings):
+    """Each landing is a pair of who lands and when."""
+    return [end, 2 * len(landings), *(number for landing in landings for number in landing)]
+
+
+def held(time, *ahead):
+    return [time, len(ahead), *ahead]
+
+
+def found(landed, place, begin, end):
+    return [landed, 3, place, begin, end]
+
+
+def walked(as_set, fewest):
+    return [as_set, 1, fewest]
+
+
+def moves(*often):
+    return [sum(often), len(often), *often]
+
+
+def there(*flights):
+    return [len(flights), len(flights), *flights]
+
+
+def stood(many, begun=(1, 0, 0), landed=(), waiting=(), flights=()):
+    """Each that landed is a pair, each flight three numbers."""
+    landed = [number for landing in landed for number in landing]
+    flights = [number for flight in flights for number in flight]
+    return [many, 3, *begun, len(landed), *landed, len(waiting), *waiting, len(flights), *flights]
+
+
+def changed_by(calls, queries):
+    """The places among the calls at which the queries make a difference to what the calls answer, or to the state."""
+    calls = calls + [state()]
+    plain = ask(calls)
+    places = []
+    for at in range(len(calls)):
+        told = ask(calls[:at] + queries + calls[at:])
+        if plain != told[:at] + told[at + len(queries):]:
+            places.append(at)
+    return places
 
 
 def landings(calls, many):

@@ -15,9 +15,12 @@ from tests.helper import begins, comes, flat, lands, stand
 from tests.test_mornings import morning
 
 MORNING = [0, 1, 20, 5, 1, 0, 1, 4, 2, 2, 3, 2, 0, 1, 3, 0, 2, 1, 0, 4, 0, 2, 100, 10, 50, 30, 4, 1, 0, 50, 10, 50, 10,
-           5, 5, 7, 0, 20, 4, 0, 1, 10, 15, 15, 100, 7, 0, 21, 8, 0, 1, 6, 1, 6, 2]
+           5, 5, 7, 0, 20, 4, 0, 1, 10, 15, 15, 100, 7, 0, 21, 8, 0, 1, 6, 1, 6, 2,
+           9, 10, 0, 5, 11, 3, 12, 0, 13, 14, 15, 0, 0, 99, 16]
 ANSWERED = [1, 0, 1, 0, 1, 0, 1, 1, 1, 1, 4, 0, 1, 0, 0, 4, 1, 1, 2, 0, 5, 1, 2, 10, 2, 0, 5, 0, 2, 11, 0, 0, 2, 0, 0,
-            4, 2, 1, 0, 0, 3, 1, 1, 2, 3, 1, 1, 0, 2, 1, 0, 2, 0, 0]
+            4, 2, 1, 0, 0, 3, 1, 1, 2, 3, 1, 1, 0, 2, 1, 0, 2, 0, 0,
+            2, 0, 0, 1, -4, 1, -2, 5, 1, 3, 2, 16, 21, 3, 2000, 1, 2000, 5, 2, 3, 1, 0, 1, 2, 0, 0,
+            15, 3, 3, 1, 20, 5, 4, 1, 10, 0, 11, 0, 3, 0, 16, 21]
 
 
 class Watched(list):
@@ -42,7 +45,15 @@ class TheForm(unittest.TestCase):
                 ([5], [1, -4]),
                 ([6, 0], [1, -2]),
                 ([7, 0, 0], [1, -2]),
-                ([8, 0, 0], [1, -2])):
+                ([8, 0, 0], [1, -2]),
+                ([9], [2, 0, 0]),
+                ([10, 0, 0], [1, -2]),
+                ([11, 0], [1, -2]),
+                ([12, 0], [1, -2]),
+                ([13], [3, 0, 1, 0]),
+                ([14], [2, 0, 0]),
+                ([15, 0, 0, 1], [1, -2]),
+                ([16], [8, 0, 3, 1, 0, 0, 0, 0, 0])):
             self.assertEqual(answered, answers(calls))
 
     def test_each_answer_with_its_lists(self):
@@ -59,6 +70,36 @@ class TheForm(unittest.TestCase):
         self.assertEqual(begun, answers(one))
         self.assertEqual(begun + [2, 0, 0], answers(one + [7, 0, 50]))
         self.assertEqual(begun + [2, 1, 0], answers(one + [6, 0]))
+
+    def test_each_question_with_its_lists(self):
+        # Two at once, the one at the stand, the other on the field.
+        calls = [0, 1, 9, 0, 2, 2, 0, 4, 0, 1, 50, 10, 99, 30, 4, 0, 1, 60, 10, 99, 30]
+        answered = [1, 0, 1, 0, 4, 0, 1, 0, 0, 4, 1, 1, 1, 0]
+        self.assertEqual(answered, answers(calls))
+        for asked, told in (
+                ([9], [6, 11, 4, 0, 10, 1, 11]),
+                ([10, 1, 9], [1, 0]),
+                ([10, 1, 10], [1, 1]),
+                ([11, 0], [2, 10, 0]),
+                ([11, 1], [3, 11, 1, 0]),
+                ([12, 1], [5, 0, 3, 1, 11, 41]),
+                ([13], [3, 540, 1, 450]),
+                ([14], [4, 0, 2, 0, 0]),
+                ([15, 0, 0, 10], [2, 0, 0]),
+                ([15, 0, 0, 11], [3, 1, 1, 0]),
+                ([16], [16, 2, 3, 1, 9, 0, 0, 2, 0, 1, 6, 0, 10, 40, 1, 11, 41])):
+            self.assertEqual(answered + told, answers(calls + asked))
+            self.assertEqual(answered + told + told, answers(calls + asked + asked))
+        calls = calls + [5, 8, 0, 1]
+        answered = answered + [5, 0, 2, 10, 0, 0, 3, 1, 1, 0]
+        self.assertEqual(answered, answers(calls))
+        for asked, told in (
+                ([9], [4, 11, 2, 1, 11]),
+                ([12, 0], [5, 1, 3, 1, 10, 40]),
+                ([6, 0, 12, 0], [2, 1, 0, 1, 2]),
+                ([14], [4, 1, 2, 1, 0]),
+                ([16], [17, 2, 3, 1, 9, 0, 2, 0, 10, 1, 1, 6, 0, 10, 40, 1, 11, 41])):
+            self.assertEqual(answered + told, answers(calls + asked))
 
     def test_those_that_were_moved_stand_behind_how_many_they_are(self):
         # Two at one stand, one behind the other; then it's shut.
